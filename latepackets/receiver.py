@@ -1,0 +1,82 @@
+"""The receiver: listens to one source, counts its packets, hands them on in order."""
+
+from latepackets.counting import Counting, number_behind, way_of
+from latepackets.packets import read_packet
+from latepackets.waiting import MOST_CARRIED, Waiting
+
+KEPT = 1
+COUNTED = 0
+NOT_BELIEVED = 2
+NO_PACKET = -1
+OTHER_SOURCE = -2
+
+NOT_THERE_YET = -1
+LOST = -2
+MOST_TOO_SMALL = -3
+
+TOLD_NUMBERS = 4294967296
+
+
+class Receiver:
+    def __init__(self, own, depth):
+        self.own = own
+        self.depth = depth
+        self.source = None
+        # The number that would make numbers begin: the one behind the last that was not believed.
+        self.awaited = None
+        # Both are None until the source is believed.
+        self.counting = None
+        self.waiting = None
+
+    def receive(self, octets, arrival):
+        packet = read_packet(octets)
+        if packet is None:
+            return NO_PACKET
+        if self.source is None:
+            self.source = packet.source
+        if packet.source != self.source:
+            return OTHER_SOURCE
+        way = way_of(arrival, packet.stamp)
+        if self.counting is None:
+            return self.doubt(packet, way)
+        whole = self.counting.whole_number(packet.number)
+        if whole is None:
+            return self.doubt(packet, way)
+        self.counting.add_packet(whole, way)
+        return self.keep_counted(whole, packet)
+
+    def doubt(self, packet, way):
+        if packet.number != self.awaited:
+            self.awaited = number_behind(packet.number)
+            return NOT_BELIEVED
+        self.begin_numbers(packet.number, way)
+        return self.keep_counted(packet.number, packet)
+
+    def begin_numbers(self, number, way):
+        # What was doubted before numbers began says nothing of those that come after.
+        self.awaited = None
+        self.counting = Counting(number, way)
+        self.waiting = Waiting(number)
+
+    def keep_counted(self, whole, packet):
+        if self.waiting.try_keep(whole, packet):
+            return KEPT
+        return COUNTED
+
+    def take(self, most):
+        if most < MOST_CARRIED:
+            return [MOST_TOO_SMALL]
+        if self.waiting is None:
+            return [NOT_THERE_YET]
+        if self.waiting.due_waits():
+            whole = self.waiting.due
+            return taken(whole, self.waiting.take_due())
+        if self.waiting.how_many() >= self.depth:
+            self.waiting.give_up_due()
+            return [LOST]
+        return [NOT_THERE_YET]
+
+
+def taken(whole, packet):
+    told = [whole % TOLD_NUMBERS, packet.stamp, packet.kind, packet.mark]
+    return [len(packet.carried)] + packet.carried + told
