@@ -5,6 +5,9 @@ from latepackets.receiver import Receiver
 RP_BEGIN = 0
 RP_RECEIVE = 1
 RP_TAKE = 2
+RP_REPORT = 3
+RP_HEARD = 4
+RP_TOLD = 5
 
 LEAST_DEPTH = 1
 MOST_DEPTH = 32
@@ -45,6 +48,12 @@ class Desk:
             return self.answer_receive()
         if call == RP_TAKE:
             return self.receiver.take(self.draw())
+        if call == RP_REPORT:
+            return self.receiver.report(self.draw())
+        if call == RP_HEARD:
+            return self.answer_heard()
+        if call == RP_TOLD:
+            return self.receiver.tell()
         raise UnknownCall(f"no call has the number {call}")
 
     def answer_begin(self):
@@ -59,6 +68,11 @@ class Desk:
         arrival = self.draw()
         octets = self.draw_row()
         return [self.receiver.receive(octets, arrival)]
+
+    def answer_heard(self):
+        now = self.draw()
+        octets = self.draw_row()
+        return [self.receiver.hear(octets, now)]
 
 
 def answers(calls):

@@ -1,9 +1,8 @@
 """Packets: what the bytes that have come say, or that they are none."""
 
+from latepackets.fields import MOST_BYTES, has_padding, has_version, padding_length, read_number
+
 HEAD_LENGTH = 12
-MOST_BYTES = 65535
-VERSION = 2
-PADDING = 32
 EXTENSION = 16
 OTHER_SOURCES = 15
 MARK = 128
@@ -19,13 +18,6 @@ class Packet:
         self.carried = carried
 
 
-def read_number(octets, start, length):
-    number = 0
-    for octet in octets[start:start + length]:
-        number = number * 256 + octet
-    return number
-
-
 # Where what is carried begins. It may lie behind the last byte: then the packet is cut short.
 def carried_start(octets):
     start = HEAD_LENGTH + 4 * (octets[0] & OTHER_SOURCES)
@@ -35,21 +27,15 @@ def carried_start(octets):
     return start + 4 + 4 * words
 
 
-def padding_length(octets):
-    if octets[0] & PADDING == 0:
-        return 0
-    return octets[-1]
-
-
 # None where the bytes are no packet.
 def read_packet(octets):
     if len(octets) < HEAD_LENGTH or len(octets) > MOST_BYTES:
         return None
-    if octets[0] // 64 != VERSION:
+    if not has_version(octets):
         return None
     padding = padding_length(octets)
     # Padding counts its own last byte, so there is none of length 0.
-    if octets[0] & PADDING != 0 and padding == 0:
+    if has_padding(octets) and padding == 0:
         return None
     start = carried_start(octets)
     end = len(octets) - padding

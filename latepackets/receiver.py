@@ -1,7 +1,11 @@
-"""The receiver: listens to one source, counts its packets, hands them on in order."""
+"""The receiver: listens to one source, counts its packets, hands them on in order, reports."""
 
 from latepackets.counting import Counting, number_behind, way_of
+from latepackets.fields import FOUR_BYTES
+from latepackets.hearing import Hearing
 from latepackets.packets import read_packet
+from latepackets.parts import read_parts
+from latepackets.report import write_block, write_report
 from latepackets.waiting import MOST_CARRIED, Waiting
 
 KEPT = 1
@@ -14,7 +18,10 @@ NOT_THERE_YET = -1
 LOST = -2
 MOST_TOO_SMALL = -3
 
-TOLD_NUMBERS = 4294967296
+PARTS_NOT_RIGHT = -1
+NONE_HEARD_OF = -1
+
+THREE_BYTES = 16777216
 
 
 class Receiver:
@@ -27,6 +34,8 @@ class Receiver:
         # Both are None until the source is believed.
         self.counting = None
         self.waiting = None
+        # Apart from the counting, so that it stays where numbers begin anew.
+        self.hearing = Hearing()
 
     def receive(self, octets, arrival):
         packet = read_packet(octets)
@@ -76,7 +85,40 @@ class Receiver:
             return [LOST]
         return [NOT_THERE_YET]
 
+    def report(self, now):
+        octets = write_report(self.own, self.report_block(now))
+        return [len(octets)] + octets
+
+    def report_block(self, now):
+        if self.counting is None:
+            return []
+        block = write_block(self.source, self.counting, self.hearing, now)
+        self.counting.note_told()
+        return block
+
+    def hear(self, octets, now):
+        parts = read_parts(octets)
+        if parts is None:
+            return PARTS_NOT_RIGHT
+        # Parts alone don't make a source heard of: its packets do.
+        if self.source is not None:
+            for part in parts:
+                self.hearing.note_part(part, self.source, now)
+        return len(parts)
+
+    def tell(self):
+        if self.source is None:
+            return [NONE_HEARD_OF]
+        return [self.source] + self.told_counts() + [self.hearing.goodbye]
+
+    def told_counts(self):
+        if self.counting is None:
+            return [0, 0, 0, 0, 0]
+        counting = self.counting
+        told = [counting.greatest % FOUR_BYTES, counting.came % FOUR_BYTES, counting.how_many_missing() % THREE_BYTES]
+        return told + [counting.told_jitter(), self.waiting.how_many()]
+
 
 def taken(whole, packet):
-    told = [whole % TOLD_NUMBERS, packet.stamp, packet.kind, packet.mark]
+    told = [whole % FOUR_BYTES, packet.stamp, packet.kind, packet.mark]
     return [len(packet.carried)] + packet.carried + told

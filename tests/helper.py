@@ -52,6 +52,39 @@ def takes(count):
     return [take() for _ in range(count)]
 
 
+def report(now=0):
+    return [3, now]
+
+
+def heard(octets, now=0):
+    return [4, now, len(octets)] + list(octets)
+
+
+def told():
+    return [5]
+
+
+def part(kind, body, count=0, padding=None, words=None, first=None):
+    """body is what stands behind the first four bytes; padding is the row of padding bytes as it stands."""
+    row = list(body) + list(padding or ())
+    if first is None:
+        first = 128 + count + (0 if padding is None else 32)
+    return [first, kind] + big(len(row) // 4 if words is None else words, 2) + row
+
+
+def sender(source=SOURCE, middle=0x11223344, **more):
+    """A 200 with a count of 0, if nothing else is said, and a time whose bytes all differ."""
+    return part(200, big(source, 4) + [0xA1, 0xA2] + big(middle, 4) + [0xA3, 0xA4] + [0xEE] * 12, **more)
+
+
+def hearer(source=SOURCE, **more):
+    return part(201, big(source, 4), **more)
+
+
+def goodbye(*sources, count=None, **more):
+    return part(203, joined([big(source, 4) for source in sources]), len(sources) if count is None else count, **more)
+
+
 def joined(calls):
     return [number for call in calls for number in call]
 

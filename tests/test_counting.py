@@ -2,7 +2,7 @@
 
 import unittest
 
-from latepackets.counting import Counting, next_jitter, way_change, way_of
+from latepackets.counting import Counting, held_missing, next_jitter, share_lost, way_change, way_of
 from latepackets.receiver import Receiver
 from tests.helper import packet
 
@@ -38,6 +38,29 @@ class Ways(unittest.TestCase):
         self.assertEqual(next_jitter(8, 0), 7)
         self.assertEqual(next_jitter(23, 0), 22)
         self.assertEqual(next_jitter(24, 100), 122)
+
+
+class Shares(unittest.TestCase):
+    def test_towards_below(self):
+        self.assertEqual(share_lost(3, 2), 85)
+        self.assertEqual(share_lost(257, 256), 0)
+        self.assertEqual(share_lost(256, 255), 1)
+        self.assertEqual(share_lost(256, 1), 255)
+
+    def test_255_at_most(self):
+        self.assertEqual(share_lost(1, 0), 255)
+        self.assertEqual(share_lost(900000, 0), 255)
+        self.assertEqual(share_lost(5, -1), 255)
+
+    def test_none(self):
+        for expected, came in ((0, 0), (0, 5), (0, -5), (5, 5), (5, 6), (1, 900)):
+            self.assertEqual(share_lost(expected, came), 0)
+
+    def test_missing_within_three_bytes(self):
+        for missing in (-8388608, -1, 0, 1, 8388607):
+            self.assertEqual(held_missing(missing), missing)
+        self.assertEqual(held_missing(8388608), 8388607)
+        self.assertEqual(held_missing(-8388609), -8388608)
 
 
 class Counted(unittest.TestCase):
