@@ -109,7 +109,8 @@ class Receiver:
     def tell(self):
         if self.source is None:
             return [NONE_HEARD_OF]
-        return [self.source] + self.told_counts() + [self.hearing.goodbye]
+        # The goodbye is the number answered first, the one in whose place a refusal stands; then come six.
+        return [self.hearing.goodbye, self.source] + self.told_counts()
 
     def told_counts(self):
         if self.counting is None:

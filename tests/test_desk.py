@@ -170,10 +170,10 @@ class Slow:
             return [-1]
         source = int.from_bytes(self.source, "big")
         if self.greatest is None:
-            return [source, 0, 0, 0, 0, 0, self.gone]
+            return [self.gone, source, 0, 0, 0, 0, 0]
         expected, came, missing, jitter = self.sums()
         counts = [self.greatest + 65536 * self.wrapped, came, missing & 0xFFFFFF, jitter, len(self.row)]
-        return [source] + counts + [self.gone]
+        return [self.gone, source] + counts
 
 
 def slow_answers(calls):
@@ -281,8 +281,8 @@ class Interface(unittest.TestCase):
         leaving = [129, 203, 0, 1, 0, 0, 0, 9]
         calls = [0, 3, 1] + [5] + [3, 70] + [1, 50, 12] + first + [5] + [1, 51, 12] + second
         calls += [4, 80, 36] + times + leaving + [4, 81, 8] + leaving + [5] + [3, 90]
-        expected = [1, 0] + [1, -1] + [9, 8, 128, 201, 0, 1, 0, 0, 0, 3] + [1, 2] + [7, 9, 0, 0, 0, 0, 0, 0] + [1, 1]
-        expected += [1, 2] + [1, -1] + [7, 9, 8, 1, 0, 0, 1, 1] + [33, 32, 129, 201, 0, 7, 0, 0, 0, 3, 0, 0, 0, 9]
+        expected = [1, 0] + [1, -1] + [9, 8, 128, 201, 0, 1, 0, 0, 0, 3] + [1, 2] + [7, 0, 9, 0, 0, 0, 0, 0] + [1, 1]
+        expected += [1, 2] + [1, -1] + [7, 1, 9, 8, 1, 0, 0, 1] + [33, 32, 129, 201, 0, 7, 0, 0, 0, 3, 0, 0, 0, 9]
         expected += [0, 0, 0, 0, 0, 0, 0, 8, 0, 0, 0, 0, 3, 4, 5, 6, 0, 0, 0, 10]
         self.assertEqual(answers(calls), expected)
 

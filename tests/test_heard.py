@@ -16,7 +16,7 @@ def parts_of(octets):
 def noted(octets):
     """How many parts, and what is noted of them of a source that is heard of: its report's middle, its goodbye."""
     answered = ask(begin(), *believed(5), heard(octets, 1), report(9), told())
-    return answered[-3], int.from_bytes(bytes(answered[-2][25:29]), "big"), answered[-1][-1]
+    return answered[-3], int.from_bytes(bytes(answered[-2][25:29]), "big"), answered[-1][0]
 
 
 class OnePart(unittest.TestCase):
@@ -268,7 +268,7 @@ class Noted(unittest.TestCase):
         calls = [begin(), heard(sender() + goodbye(SOURCE), 1), told(), *believed(5), told()]
         answered = ask(*calls)
         self.assertEqual(answered[1:3], [[2], [-1]])
-        self.assertEqual(answered[-1][-1], 0)
+        self.assertEqual(answered[-1][0], 0)
 
     def test_does_not_make_a_source_heard_of(self):
         calls = [begin(), heard(sender(OTHER), 1), *believed(5), *come(6, source=OTHER)]
@@ -277,14 +277,14 @@ class Noted(unittest.TestCase):
     def test_heard_of_and_not_believed(self):
         calls = [begin(), *come(4), heard(sender(middle=5) + goodbye(SOURCE), 1), told(), *come(5), told(), report(3)]
         answered = ask(*calls)
-        self.assertEqual([answered[3][-1], answered[5][-1]], [1, 1])
+        self.assertEqual([answered[3][0], answered[5][0]], [1, 1])
         self.assertEqual(answered[-1][-8:], [0, 0, 0, 5, 0, 0, 0, 2])
 
     def test_refused_before_and_taken_after(self):
         calls = [begin(), *come(4), heard([]), heard(goodbye(SOURCE)), told()]
         calls += [heard(hearer() + goodbye(SOURCE)), told()]
         answered = ask(*calls)
-        self.assertEqual(answered[2:4] + [answered[4][-1], answered[6][-1]], [[-1], [-1], 0, 1])
+        self.assertEqual(answered[2:4] + [answered[4][0], answered[6][0]], [[-1], [-1], 0, 1])
 
     def test_packets_go_on(self):
         calls = [begin(), *come(4), heard(sender()), *come(5), heard(hearer() + goodbye(SOURCE)), *come(6)]
